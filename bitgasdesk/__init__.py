@@ -1,0 +1,1 @@
+"""A gas of bits, whole: bitgasdesk.board answers the calls."""
