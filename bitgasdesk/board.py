@@ -4,8 +4,12 @@ START = 0
 WORK = 1
 TURN = 2
 BACK = 3
+CELL = 4
+SUM = 5
+PUSH = 6
 
 FORM_NUMBER = 0
+FORM_SEVERAL = 1
 
 BEGINNING = -2
 NOT_NOW = -11
@@ -60,13 +64,19 @@ def rotated(word, by):
     return (word >> by) | ((word << (64 - by)) & FULL_WORD)
 
 
-def ones(row):
-    """How many bits of the row are 1."""
-    count = 0
-    while row != 0:
-        row = row & (row - 1)
-        count = count + 1
-    return count
+def ones(row, full):
+    """How many bits of the row are 1; full is a row as wide, of whole words, with all of them 1."""
+    # Each is full cut into parts of so many bits, with the lower half of each part 1.
+    ones_of_2 = full // 3
+    twos_of_4 = full // 5
+    fours_of_8 = full // 17
+    eights_of_16 = full // 257
+    row = (row & ones_of_2) + ((row >> 1) & ones_of_2)
+    row = (row & twos_of_4) + ((row >> 2) & twos_of_4)
+    row = (row & fours_of_8) + ((row >> 4) & fours_of_8)
+    row = (row & eights_of_16) + ((row >> 8) & eights_of_16)
+    # Each 16 bits now hold their own count; divided by 65535, 65536 leaves 1, so that all counts are left, together.
+    return row % 65535
 
 
 def shifted(row, by, full):
@@ -106,14 +116,15 @@ def met(flying, wall, way):
     return out
 
 
-def movement(flying, places):
-    """How all that fly at these places of a row move, together."""
-    first = 0
-    second = 0
-    for d in range(6):
-        many = ones(flying[d] & places)
-        first = first + many * MOVES[d][0]
-        second = second + many * MOVES[d][1]
+def counted(flying, places, full):
+    """How many fly at these places of a row, direction by direction."""
+    return [ones(row & places, full) for row in flying]
+
+
+def movement(counts):
+    """How so many in each direction move, together."""
+    first = sum([many * move[0] for many, move in zip(counts, MOVES)])
+    second = sum([many * move[1] for many, move in zip(counts, MOVES)])
     return (first, second)
 
 
@@ -200,6 +211,28 @@ class Board:
             self.add_push(y, -2)
         return 0
 
+    def gb_cell(self, x, y):
+        if x >= 64 * self.words or y >= self.height:
+            return WRONG
+        there = ((self.walls[y] >> x) & 1) << 6
+        for d, row in enumerate(self.row_now(y)):
+            there = there | (((row >> x) & 1) << d)
+        return there
+
+    def gb_sum(self, x0, y0, x1, y1):
+        if x0 > x1 or x1 > 64 * self.words or y0 > y1 or y1 > self.height:
+            return WRONG
+        places = (1 << x1) - (1 << x0)
+        counts = [0] * 6
+        for y in range(y0, y1):
+            of_row = counted(self.row_now(y), places, self.full)
+            counts = [many + more for many, more in zip(counts, of_row)]
+        moved = movement(counts)
+        return (sum(counts), moved[0], moved[1])
+
+    def gb_push(self):
+        return self.push
+
     def row_now(self, y):
         """What flies in row y now; beyond the board nothing does."""
         if y < 0 or y >= self.height:
@@ -240,16 +273,26 @@ class Board:
 
     def add_push(self, y, times):
         """Push is more by so many times how all that are at walls of row y now move."""
-        moved = movement(self.row_now(y), self.walls[y])
+        moved = movement(counted(self.row_now(y), self.walls[y], self.full))
         self.push = (self.push[0] + times * moved[0], self.push[1] + times * moved[1])
+
+
+def start_end(calls, at):
+    """Where the gb_start that begins here ends."""
+    gas_count = at + 5 + calls[at + 4]
+    return gas_count + 1 + calls[gas_count]
 
 
 def call_end(calls, at):
     """Where the call that begins here ends."""
-    if calls[at] != START:
-        return at + 1
-    gas_count = at + 5 + calls[at + 4]
-    return gas_count + 1 + calls[gas_count]
+    number = calls[at]
+    if number == START:
+        return start_end(calls, at)
+    if number == CELL:
+        return at + 3
+    if number == SUM:
+        return at + 5
+    return at + 1
 
 
 def start_answer(board, call):
@@ -258,8 +301,8 @@ def start_answer(board, call):
     return board.gb_start(call[1], call[2], call[3], call[5:gas_count], call[gas_count + 1:])
 
 
-def number_answer(board, call):
-    """What the board answers to one call."""
+def one_answer(board, call):
+    """What the board answers to one call: a number, or a tuple of several."""
     number = call[0]
     if number == START:
         return start_answer(board, call)
@@ -269,18 +312,31 @@ def number_answer(board, call):
         return board.gb_turn()
     if number == BACK:
         return board.gb_back()
+    if number == CELL:
+        return board.gb_cell(call[1], call[2])
+    if number == SUM:
+        return board.gb_sum(call[1], call[2], call[3], call[4])
+    if number == PUSH:
+        return board.gb_push()
     raise UnknownCall(f"no call has the number {number}")
 
 
+def told(answer):
+    """The numbers that tell an answer, its form first."""
+    if isinstance(answer, int):
+        return [FORM_NUMBER, answer]
+    return [FORM_SEVERAL, len(answer)] + list(answer)
+
+
 def answers(calls):
-    """What a new board answers to these calls: of each how many numbers, its form, and the number."""
+    """What a new board answers to these calls: of each how many numbers tell it, and these."""
     board = Board()
     given = []
     at = 0
     while at < len(calls):
         after = call_end(calls, at)
-        told = [FORM_NUMBER, number_answer(board, calls[at:after])]
-        given.append(len(told))
-        given.extend(told)
+        numbers = told(one_answer(board, calls[at:after]))
+        given.append(len(numbers))
+        given.extend(numbers)
         at = after
     return given

@@ -1,10 +1,13 @@
 """What the tests share: boards as calls, and a plain board that follows the document place by place."""
 
-from bitgasdesk.board import Board
+from bitgasdesk.board import Board, answers
 
 MOVES = [(1, 0), (0, 1), (-1, 1), (-1, 0), (0, -1), (1, -1)]
 FULL = 2 ** 64 - 1
 KEYS = [0, FULL, 1, 2 ** 63, 0x9E3779B97F4A7C15]
+LARGEST = 2 ** 32 - 1
+
+WORK, TURN, BACK, PUSH = [1], [2], [3], [6]
 
 
 def neighbour(place, d):
@@ -72,11 +75,58 @@ def empty_start_call(words, height, key=0):
     return [0, words, height, key, 0, 0]
 
 
-def told(*numbers):
-    """What is given back for calls that answer these numbers."""
+def cell_call(x, y):
+    return [4, x, y]
+
+
+def sum_call(x0, y0, x1, y1):
+    return [5, x0, y0, x1, y1]
+
+
+def cell_calls(words, rows):
+    """gb_cell of every place of these rows."""
+    calls = []
+    for y in rows:
+        for x in range(64 * words):
+            calls += cell_call(x, y)
+    return calls
+
+
+def whole_sum_call(words, height):
+    return sum_call(0, 0, 64 * words, height)
+
+
+def step_calls(height):
+    """One whole sweep as calls."""
+    return WORK * height + TURN
+
+
+def told(*given):
+    """What is given back for calls that answer so: a number, or a tuple of several."""
     out = []
-    for number in numbers:
-        out += [2, 0, number]
+    for answer in given:
+        if isinstance(answer, tuple):
+            out += [2 + len(answer), 1, len(answer), *answer]
+        else:
+            out += [2, 0, answer]
+    return out
+
+
+def answered(calls):
+    """What the program answers to each of these calls, in the form that told takes."""
+    if len(calls) > 16000:
+        raise ValueError("no list is as long")
+    given = answers(calls)
+    out = []
+    at = 0
+    while at < len(given):
+        numbers = given[at + 1:at + 1 + given[at]]
+        out.append(numbers[1] if numbers[0] == 0 else tuple(numbers[2:]))
+        at += 1 + given[at]
+    if told(*out) != given:
+        raise ValueError("an answer is not in its form")
+    if len(out) > 3000:
+        raise ValueError("no list has as many calls")
     return out
 
 
@@ -157,6 +207,17 @@ class PlainBoard:
         self.sweep -= 1
         return 0
 
+    def cell(self, x, y):
+        if not self.on_board((x, y)):
+            return -22
+        return sum(1 << d for d in range(6) if ((x, y), d) in self.now) + 64 * ((x, y) in self.walls)
+
+    def sums(self, x0, y0, x1, y1):
+        if x0 > x1 or x1 > 64 * self.words or y0 > y1 or y1 > self.height:
+            return -22
+        there = [(p, d) for p, d in self.now if x0 <= p[0] < x1 and y0 <= p[1] < y1]
+        return (len(there),) + together(there)
+
     def seen(self):
         return self.sweep, self.push, list(self.states), set(self.now), set(self.ahead)
 
@@ -211,6 +272,18 @@ def both_started(words, height, key=0, walls=None, flying=()):
     if walls is None:
         walls = edge(words, height)
     return started(words, height, key, walls, flying), PlainBoard(words, height, key, walls, flying)
+
+
+def both_random(source, words, height):
+    """Both boards, begun in the same way with some walls and something flying."""
+    walls = random_walls(source, words, height, 0.1)
+    flying = random_flying(source, words, height, walls, 0.35)
+    return both_started(words, height, source.getrandbits(64), walls, flying)
+
+
+def both_do(case, board, plain, what):
+    """The call of this name on both boards, which are to answer the same."""
+    case.assertEqual(getattr(board, "gb_" + what)(), getattr(plain, what)())
 
 
 def work_all(board):

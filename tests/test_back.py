@@ -5,11 +5,9 @@ import unittest
 
 from bitgasdesk.board import answers
 from tests.plainboard import (
-    KEYS, ahead_of, both_started, edge, now_of, random_flying, random_walls, seen, start_call, started, step, told,
-    work_all,
+    BACK, KEYS, TURN, WORK, ahead_of, both_started, edge, now_of, random_flying, random_walls, seen, start_call,
+    started, step, told, work_all,
 )
-
-WORK, TURN, BACK = [1], [2], [3]
 
 
 class RefusedTest(unittest.TestCase):

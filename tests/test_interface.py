@@ -5,9 +5,9 @@ import io
 import unittest
 
 import bitgasdesk.board
-from tests.plainboard import FULL, edge, empty_start_call, start_call, told
-
-WORK, TURN, BACK = [1], [2], [3]
+from tests.plainboard import (
+    BACK, FULL, PUSH, TURN, WORK, cell_call, edge, empty_start_call, start_call, sum_call, told, whole_sum_call,
+)
 
 
 class Untouched(list):
@@ -24,8 +24,9 @@ def some_calls():
     flying = {((5, 1), 0), ((9, 1), 3), ((62, 2), 0), ((64, 2), 3), ((2, 2), 2)}
     first = start_call(2, 4, 0x9E3779B97F4A7C15, edge(2, 4) | {(63, 2)}, flying)
     second = start_call(1, 3, FULL, None, {((7, 1), 5)})
-    middle = (WORK * 5 + TURN) * 3 + BACK * 4 + WORK + BACK + TURN
-    return first + middle + empty_start_call(0, 3) + second + WORK * 4 + TURN + BACK * 2
+    middle = (WORK * 5 + TURN) * 3 + PUSH + BACK * 4 + cell_call(62, 2) + WORK + BACK + TURN
+    last = WORK * 4 + TURN + whole_sum_call(1, 3) + BACK * 2 + sum_call(1, 0, 0, 3) + cell_call(0, 3) + cell_call(7, 1)
+    return first + middle + empty_start_call(0, 3) + second + last
 
 
 class AnswersTest(unittest.TestCase):
@@ -37,8 +38,26 @@ class AnswersTest(unittest.TestCase):
 
     def test_a_longer_line(self):
         sweep = [1, 1, 1, 1, 0, 0]
-        expected = [0] + sweep * 3 + [0, 0, 0, -2, 1, -11, -11] + [-22] + [0, 1, 1, 1, 0, 0, 0, -2]
+        # At the wall (63, 2) two meet that come from either side; (2, 2) in direction 2 leads to (1, 1), then (1, 0).
+        middle = [(-2, 2), 0, 0, 0, -2, 1, 1, -11, -11]
+        last = [-22, 0, 1, 1, 1, 0, 0, (1, 1, -1), 0, -2, -22, -22, 32]
+        expected = [0] + sweep * 3 + middle + last
         self.assertEqual(bitgasdesk.board.answers(some_calls()), told(*expected))
+
+    def test_a_number_has_the_form_0(self):
+        calls = start_call(1, 3, 0, None, {((5, 1), 0), ((5, 1), 3)})
+        calls += cell_call(5, 1) + cell_call(0, 1) + cell_call(64, 1)
+        self.assertEqual(bitgasdesk.board.answers(calls), [2, 0, 0, 2, 0, 9, 2, 0, 64, 2, 0, -22])
+
+    def test_several_numbers_have_the_form_1_and_their_count(self):
+        calls = start_call(1, 3, 0, None, {((1, 1), 3)}) + sum_call(0, 0, 64, 3) + PUSH
+        self.assertEqual(bitgasdesk.board.answers(calls), [2, 0, 0, 5, 1, 3, 1, -1, 0, 4, 1, 2, 0, 0])
+        calls = start_call(1, 3, 0, None, {((1, 1), 3)}) + WORK * 3 + TURN + WORK * 2 + PUSH
+        self.assertEqual(bitgasdesk.board.answers(calls)[-5:], [4, 1, 2, -2, 0])
+
+    def test_a_sum_that_is_refused_has_the_form_0(self):
+        calls = start_call(1, 3) + sum_call(1, 0, 0, 3) + sum_call(0, 0, 0, 0)
+        self.assertEqual(bitgasdesk.board.answers(calls), [2, 0, 0, 2, 0, -22, 5, 1, 3, 0, 0, 0])
 
     def test_whole_numbers_in_a_list(self):
         given = bitgasdesk.board.answers(some_calls())
@@ -79,9 +98,18 @@ class AnswersTest(unittest.TestCase):
         calls = start_call(1, 3) + (WORK * 3 + TURN) * 749 + BACK * 3
         self.assertEqual(bitgasdesk.board.answers(calls), told(0, *[1, 1, 1, 0] * 749, 0, 0, 0))
 
+    def test_3000_calls_of_each_kind(self):
+        # 1, 3, 5 and 1 numbers long, and numbers within them that are calls' own: each is to be taken as it stands.
+        group = cell_call(5, 1) + sum_call(4, 0, 6, 3) + PUSH + cell_call(0, 6) + WORK + BACK
+        calls = start_call(1, 3, 0, None, {((5, 1), 0)}) + group * 499 + PUSH * 5
+        expected = [0]
+        for n in range(499):
+            expected += [1, (1, 1, 0), (0, 0), -22, 1 if n < 3 else 0, -11]
+        self.assertEqual(bitgasdesk.board.answers(calls), told(*expected, *[(0, 0)] * 5))
+
     def test_the_longest_list(self):
-        start = start_call(8, 256, FULL, None, {((x, y), d) for x in range(1, 511) for y in range(1, 255) for d in (0, 3)})
-        calls = start + (WORK * 256 + TURN + BACK) * 6
+        flying = {((x, y), d) for x in range(1, 511) for y in range(1, 255) for d in (0, 3)}
+        calls = start_call(8, 256, FULL, None, flying) + (WORK * 256 + TURN + BACK) * 6
         self.assertLessEqual(len(calls), 16000)
         self.assertEqual(bitgasdesk.board.answers(calls), told(0, *([1] * 256 + [0, 0]) * 6))
 

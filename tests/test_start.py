@@ -5,11 +5,9 @@ import unittest
 
 from bitgasdesk.board import Board, answers
 from tests.plainboard import (
-    FULL, edge, empty_start_call, flying_in, now_of, random_flying, random_walls, start_call, start_numbers, started,
-    step, told, whole, words_of,
+    BACK, FULL, TURN, WORK, edge, empty_start_call, flying_in, now_of, random_flying, random_walls, start_call,
+    start_numbers, started, step, told, whole, words_of,
 )
-
-WORK, TURN, BACK = [1], [2], [3]
 
 
 class SizesTest(unittest.TestCase):
@@ -71,7 +69,8 @@ class FliesAtWallTest(unittest.TestCase):
             last = (64 * words - 1, height - 1)
             single = (30, 1)
             walls = edge(words, height) | {single}
-            for place in ((0, 0), last, (0, last[1]), (last[0], 0), (0, 1), (last[0], 1), (17, 0), (17, last[1]), single):
+            corners = ((0, 0), last, (0, last[1]), (last[0], 0))
+            for place in corners + ((0, 1), (last[0], 1), (17, 0), (17, last[1]), single):
                 for d in range(6):
                     with self.subTest(words=words, place=place, d=d):
                         self.assertEqual(answers(start_call(words, height, 0, walls, {(place, d)})), told(-22))

@@ -3,9 +3,7 @@
 import unittest
 
 from bitgasdesk.board import answers
-from tests.plainboard import ahead_of, now_of, seen, start_call, started, step, told, work_all
-
-WORK, TURN, BACK = [1], [2], [3]
+from tests.plainboard import TURN, WORK, ahead_of, now_of, seen, start_call, started, step, told, work_all
 
 
 class TurnTest(unittest.TestCase):

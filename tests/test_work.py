@@ -5,11 +5,9 @@ import unittest
 
 from bitgasdesk.board import answers
 from tests.plainboard import (
-    FULL, KEYS, MOVES, ahead_of, both_started, edge, neighbour, now_of, random_flying, random_walls, seen, start_call,
-    started, step, told, turned, work_all,
+    FULL, KEYS, MOVES, TURN, WORK, ahead_of, both_started, edge, neighbour, now_of, random_flying, random_walls, seen,
+    start_call, started, step, told, turned, work_all,
 )
-
-WORK, TURN, BACK = [1], [2], [3]
 
 
 def after_one_step(directions, place, key, words=2, height=7, walls=None, steps_ahead=0):
